@@ -29,7 +29,7 @@ func memoryOf(m api.Module, k int) []byte {
 	return b
 }
 
-// world of a reckoning: here blocks are lists within lists, each gone through by a call of its own, and nothing leaves but by what a call tells.
+// reckoning is a run: here blocks are lists within lists, each gone through by a call of its own, and nothing leaves but by what a call tells.
 type reckoning struct {
 	m     api.Module
 	x     api.Script
