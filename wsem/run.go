@@ -2,6 +2,7 @@ package wsem
 
 import (
 	"oubliette/api"
+	"oubliette/host"
 	"oubliette/linmem"
 	"oubliette/nest"
 )
@@ -20,18 +21,17 @@ func must(holds bool, trap int) {
 type run struct {
 	m       api.Module
 	spans   [][]nest.Span // of each function, at the place of a block's beginning, that block
-	answers []api.Answer  // those that are not given yet
+	host    *host.Host
 	fuel    int
 	steps   int
 	depth   int // how many calls are within one another
-	calls   []api.HostCall
 	globals []int
 	mems    [2]string
 }
 
 // newRun stands ahead of its first call.
 func newRun(m api.Module, x api.Script) *run {
-	r := &run{m: m, answers: x.Answers, fuel: x.Fuel}
+	r := &run{m: m, host: host.New(x), fuel: x.Fuel}
 	for _, f := range m.Funcs {
 		r.spans = append(r.spans, spansOf(f.Body))
 	}
@@ -92,23 +92,11 @@ func (r *run) enter(f int, args []int) []int {
 
 // ask calls the host function n, and tells what it brings.
 func (r *run) ask(n int, sig api.Sig, args []int) []int {
-	r.calls = append(r.calls, api.HostCall{Func: n, Args: args})
-	must(len(r.answers) > 0, api.TrapScript)
-	must(len(r.calls) <= api.MaxHost, api.TrapScript)
-	a := r.answers[0]
-	r.answers = r.answers[1:]
-	brought, ok := broughtBy(a.V, sig.Results)
-	must(ok, api.TrapScript)
-	mems, ok := linmem.Apply(r.mems, a.Writes)
+	v, mems, ok := r.host.Ask(n, sig.Results, args, r.mems)
 	must(ok, api.TrapScript)
 	r.mems = mems
-	return brought
-}
-
-// broughtBy is what an answer of v brings, where results are brought, and whether it may be v.
-func broughtBy(v int, results []int) ([]int, bool) {
-	if len(results) == 0 {
-		return nil, v == 0
+	if len(sig.Results) == 0 {
+		return nil
 	}
-	return []int{v}, isOf(results[0], v)
+	return []int{v}
 }
